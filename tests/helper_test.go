@@ -112,3 +112,129 @@ func alike(t *testing.T, name string, call func() any) {
 		t.Errorf("%s: %v, then %v", name, first, second)
 	}
 }
+
+// easyCase has hours and room in which most short routes can be driven.
+func easyCase(d *dice) impl.Case {
+	n := d.roll(1, 8)
+	c := impl.Case{Times: randomMatrix(d, n, d.roll(0, 20)), Fine: d.roll(0, 40)}
+	for i := range edge(d, 0, impl.MaxOrders) {
+		o := impl.Order{Id: 10*i + d.roll(1, 10), Place: d.roll(0, n-1), Load: d.roll(0, 4), From: d.roll(0, 60), Serve: d.roll(0, 5)}
+		o.To = o.From + d.roll(20, 200)
+		c.Orders = append(c.Orders, o)
+	}
+	for i := range edge(d, 0, impl.MaxVehicles) {
+		v := impl.Vehicle{Id: 10*i + d.roll(1, 10), Home: d.roll(0, n-1), Room: d.roll(3, 20), From: d.roll(0, 30)}
+		v.To = v.From + d.roll(50, 300)
+		c.Vehicles = append(c.Vehicles, v)
+	}
+	return c
+}
+
+// shuffled answers the list in any order.
+func shuffled(d *dice, list []int64) []int64 {
+	list = slices.Clone(list)
+	for i := range list {
+		j := d.roll(0, int64(i))
+		list[i], list[j] = list[j], list[i]
+	}
+	return list
+}
+
+// anyPlan deals all orders out, whether that can be driven or not.
+func anyPlan(d *dice, c impl.Case) impl.Plan {
+	stops := map[int64][]int64{}
+	var p impl.Plan
+	for _, at := range shuffled(d, places(len(c.Orders))) {
+		if v := d.roll(-2, int64(len(c.Vehicles))-1); v >= 0 {
+			stops[v] = append(stops[v], c.Orders[at].Id)
+		} else {
+			p.Left = append(p.Left, c.Orders[at].Id)
+		}
+	}
+	slices.Sort(p.Left)
+	for i, v := range c.Vehicles {
+		if len(stops[int64(i)]) > 0 {
+			p.Routes = append(p.Routes, impl.Route{Vehicle: v.Id, Stops: stops[int64(i)]})
+		}
+	}
+	return p
+}
+
+func places(count int) []int64 {
+	var list []int64
+	for i := range count {
+		list = append(list, int64(i))
+	}
+	return list
+}
+
+// holding leaves the stops of all routes of anyPlan that cannot be driven.
+func holding(d *dice, c impl.Case) impl.Plan {
+	p := anyPlan(d, c)
+	var routes []impl.Route
+	for _, r := range p.Routes {
+		if impl.CostOf(c, r) >= 0 {
+			routes = append(routes, r)
+		} else {
+			p.Left = append(p.Left, r.Stops...)
+		}
+	}
+	slices.Sort(p.Left)
+	p.Routes = routes
+	return p
+}
+
+func roomyPlan(p impl.Plan) impl.Plan {
+	q := impl.Plan{Left: roomy(p.Left)}
+	for _, r := range p.Routes {
+		q.Routes = append(q.Routes, impl.Route{Vehicle: r.Vehicle, Stops: roomy(r.Stops)})
+	}
+	q.Routes = append(q.Routes, impl.Route{Vehicle: spare})[:len(p.Routes)]
+	return q
+}
+
+func copyPlan(p impl.Plan) impl.Plan {
+	q := impl.Plan{Left: slices.Clone(p.Left)}
+	for _, r := range p.Routes {
+		q.Routes = append(q.Routes, impl.Route{Vehicle: r.Vehicle, Stops: slices.Clone(r.Stops)})
+	}
+	return q
+}
+
+// wholePlan copies a plan together with the room behind all its lists.
+func wholePlan(p impl.Plan) impl.Plan {
+	q := impl.Plan{Left: whole(p.Left), Routes: whole(p.Routes)}
+	for i := range q.Routes {
+		q.Routes[i].Stops = whole(q.Routes[i].Stops)
+	}
+	return q
+}
+
+func sameRoute(a, b impl.Route) bool {
+	return a.Vehicle == b.Vehicle && slices.Equal(a.Stops, b.Stops)
+}
+
+// samePlan takes an empty list and nil for the same.
+func samePlan(a, b impl.Plan) bool {
+	return slices.Equal(a.Left, b.Left) && slices.EqualFunc(a.Routes, b.Routes, sameRoute)
+}
+
+// oneByteAway are the texts with one byte more, another one, or one less.
+func oneByteAway(text string) []string {
+	const bytes = "0123456789 \n+-.:!cxz\x00\xff"
+	var list []string
+	for i := range len(text) + 1 {
+		for _, b := range []byte(bytes) {
+			list = append(list, text[:i]+string([]byte{b})+text[i:])
+			if i < len(text) {
+				list = append(list, text[:i]+string([]byte{b})+text[i+1:])
+			}
+		}
+		if i < len(text) {
+			list = append(list, text[:i]+text[i+1:])
+		}
+	}
+	return list
+}
+
+func first[A, B any](a A, b B) A { return a }
