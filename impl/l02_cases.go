@@ -228,6 +228,11 @@ func (r *reader) atLine(word string) bool { return strings.HasPrefix(r.rest, wor
 // line takes a line of this word and so many numbers.
 func (r *reader) line(word string, count int64) []int64 {
 	r.take(word)
+	return r.numbers(count)
+}
+
+// numbers takes so many numbers, and the line's end behind them.
+func (r *reader) numbers(count int64) []int64 {
 	var numbers []int64
 	for range count {
 		r.take(" ")
